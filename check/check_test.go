@@ -279,6 +279,7 @@ func TestBlocks(t *testing.T) {
 	turn(t, "a bit of the next word", fault{check.Blocks, 69, 0}, m+1, 32)
 	turn(t, "bits behind the last one", fault{}, m+1, 64)
 	turn(t, "a block without a bit", fault{check.Blocks, b, 0}, m, bits(t, m)&^(1<<b))
+	turn(t, "the block 1 without a bit", fault{check.Blocks, 1, 0}, m, bits(t, m)&^2)
 	turn(t, "a block that is let go", fault{check.Blocks, b, 0}, node(6, inode.First), 0)
 }
 
@@ -296,6 +297,7 @@ func TestTails(t *testing.T) {
 	turn(t, "a block behind the size", want, node(6, inode.Size), 256)
 	turn(t, "a block far behind the size", want, node(6, inode.Size), 0)
 	turn(t, "a block at the size", want, node(6, inode.Size), 64)
+	turn(t, "a block of noughts at the size", want, node(6, inode.Size), 256, word(last, 5), 0)
 	turn(t, "a byte behind the size", want, node(6, inode.Size), 299)
 	turn(t, "the size at the last byte", fault{}, node(6, inode.Size), 300)
 	turn(t, "the size at the block's end", fault{}, node(6, inode.Size), 320)
@@ -354,7 +356,7 @@ func TestAnyWords(t *testing.T) {
 	}
 }
 
-// P25.2: whatever is planned on a sound device, it is sound behind its writes, and each inode whose bit is set is reached.
+// P25.2, W4: whatever is planned on a sound device, it is sound behind its writes, and each inode whose bit is set is reached; when all is closed and taken away all is free.
 func TestPlansStaySound(t *testing.T) {
 	for seed := range uint64(8) {
 		state := seed + 51
@@ -381,6 +383,52 @@ func TestPlansStaySound(t *testing.T) {
 				}
 			}
 		}
+		closed(t, words, gens)
+		emptied(t, words, 1, "")
+		maps := layout.InodeMapAt(h)
+		if f, sound := check.Look(words); !sound || words[maps] != 3 || words[maps+8] != 1 || slices.Max(words[maps+9:maps+16]) != 0 {
+			t.Fatalf("%v; not all is free: %x", f, words[maps:maps+16])
+		}
+	}
+}
+
+// closed: all sessions are.
+func closed(t *testing.T, words []uint64, gens [4]uint64) {
+	t.Helper()
+	for i, gen := range gens {
+		if gen == 0 {
+			continue
+		}
+		_, l, e := plan.Close(words, i, gen)
+		if e != api.OK || !record.May(of(words), l) {
+			t.Fatal("Close: ", e)
+		}
+		view.Apply(words, l)
+	}
+}
+
+// of: the geometry of words.
+func of(words []uint64) layout.Geometry {
+	h, _ := layout.Of(words)
+	return h
+}
+
+// emptied: all that is in a directory is taken away.
+func emptied(t *testing.T, words []uint64, dir int, above string) {
+	t.Helper()
+	list, _ := entry.List(view.New(words), of(words), dir)
+	for _, x := range list {
+		s := above + "/" + x.Name
+		r := req{Kind: api.ReqUnlink, Path: s}
+		if node, _ := inode.Get(view.New(words), of(words), x.Inode); node.Kind == api.IsDir {
+			emptied(t, words, x.Inode, s)
+			r.Kind = api.ReqRmdir
+		}
+		v := view.New(words)
+		if got := plan.Do(v, of(words), 0, r); got.Err != api.OK {
+			t.Fatalf("away with %q: %v", s, got)
+		}
+		view.Apply(words, v.Writes())
 	}
 }
 

@@ -212,6 +212,20 @@ func TestSpoiltBlock(t *testing.T) {
 		t.Errorf("Resize ahead of it: %d", e)
 	}
 	write(t, v, h, 250, strings.Repeat("y", 70))
+	// Of places that lack a block, and then one that says nothing, no need is told.
+	v.Put(layout.InodeAt(h, 2)+inode.First+3, 0)
+	if n := data.Need(v, h, 2, 250, 200); n != 0 {
+		t.Errorf("Need: %d", n)
+	}
+}
+
+// P14.2: the block 0, as a spoilt map may tell it, has no bytes set.
+func TestBlockNought(t *testing.T) {
+	v, h := fresh(t, 30)
+	v.Put(layout.BlockMapAt(h), 0)
+	if e := data.Write(v, h, 2, 0, "abc"); e != api.ErrBytes || v.Get(layout.BlockAt(h, 0)) != 0 || sizeOf(v, h) != 0 {
+		t.Errorf("%d", e)
+	}
 }
 
 // P14.1: Need, by hand.
@@ -336,6 +350,12 @@ func TestMany(t *testing.T) {
 			t.Errorf("%d words left: Resize: %d", left, e)
 		}
 	}
+	if e := data.Write(full(0), h, 2, 10, "yyyy"); e != api.ErrMany {
+		t.Errorf("within the file: %d", e)
+	}
+	if e := data.Resize(full(0), h, 2, 90); e != api.ErrMany {
+		t.Errorf("within a block: %d", e)
+	}
 	if e := data.Resize(full(0), h, 2, 100); e != api.OK {
 		t.Errorf("to what it is: %d", e)
 	}
@@ -371,7 +391,13 @@ func TestResize(t *testing.T) {
 		t.Errorf("to nothing: %d are free", free(v, h))
 	}
 	write(t, v, h, 70, "y")
+	for i := range 8 {
+		v.Put(layout.BlockAt(h, 0)+i, math.MaxUint64) // no place's block
+	}
 	resize(t, v, h, 30)
+	if v.Get(layout.BlockAt(h, 0)+7) != math.MaxUint64 {
+		t.Error("words of the block 0 are turned")
+	}
 	read(t, v, h, 0, 99, strings.Repeat("\x00", 30))
 	if free(v, h) != 29 {
 		t.Error("a place without a block takes one")

@@ -258,6 +258,13 @@ func TestMany(t *testing.T) {
 		return v
 	}
 	v := fresh(t)
+	last := v
+	last.Put(layout.InodeAt(g, 2)+inode.Opens, 0)
+	for i := range api.MaxWrites - 1 {
+		last.Put(layout.AreaAt(g, 0)+i, 0)
+	}
+	open(t, last, 0, 2, 0, api.ErrMany) // the opens alone might be put
+	v = fresh(t)
 	open(t, full(v, 0), 0, 2, 0, api.ErrMany)
 	open(t, full(v, 1), 0, 2, 0, api.ErrMany)
 	open(t, full(v, 2), 0, 2, 0, api.OK)

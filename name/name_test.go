@@ -211,6 +211,15 @@ func TestLink(t *testing.T) {
 	d.link("/f", "/h", api.ErrExist)
 }
 
+// P17.1: a name that says nothing is told ahead of want of room.
+func TestSpoiltAheadOfRoom(t *testing.T) {
+	d := newDisk(t, layout.Geometry{Workers: 1, Inodes: 3, Blocks: 40})
+	d.make("/f", api.IsFile, 2, api.OK)
+	m, _ := blocks.Of(view.New(d.words), d.g, 1)
+	d.words[layout.BlockAt(d.g, m.List()[0])] = 0
+	d.make("/g", api.IsFile, 0, api.ErrBytes)
+}
+
 // P17.2: ErrLinks goes ahead of want of room.
 func TestLinksAheadOfRoom(t *testing.T) {
 	d := newDisk(t, layout.Geometry{Workers: 1, Inodes: 9, Blocks: 2})

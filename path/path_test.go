@@ -53,7 +53,7 @@ func paths() map[string][]string {
 // noPaths: texts that are none.
 func noPaths() []string {
 	long := "/" + strings.Repeat("x", 40)
-	return []string{"", "a", "a/b", "//", "/a/", "//a", "/a//b", "/.", "/..", "/a/..", "/./a", "/a\x00", "/\x00", long + "x", " /a", "/a/.", strings.Repeat("/a", 101), strings.Repeat(long, 4) + "/" + strings.Repeat("y", 36), "/" + strings.Repeat("x", 199)}
+	return []string{"", "a", "a/b", "ab", "ab/c", "//", "/a/", "//a", "/a//b", "/.", "/..", "/a/..", "/./a", "/a\x00", "/\x00", long + "x", " /a", "/a/.", strings.Repeat("/a", 101), strings.Repeat(long, 4) + "/" + strings.Repeat("y", 36), "/" + strings.Repeat("x", 199)}
 }
 
 // P16.1, P16.4: Split and Join.

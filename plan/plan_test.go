@@ -275,6 +275,24 @@ func TestErrDrops(t *testing.T) {
 	}
 }
 
+// P21.1: errors of what a request does on a device that is spoilt, or has no room: the first one ends it.
+func TestFirstErrorEnds(t *testing.T) {
+	h := layout.Geometry{Workers: 1, Inodes: 9, Blocks: 4}
+	d := newDisk(t, h)
+	d.call(req{Kind: api.ReqOpen, Path: "/f", Flags: api.Create}, api.Result{B: 2})
+	d.call(req{Kind: api.ReqWrite, Data: strings.Repeat("x", 128)}, api.Result{Err: api.ErrSpace})
+	d.call(req{Kind: api.ReqSeek}, api.Result{})
+	node := layout.InodeAt(h, 2)
+	d.words[node+inode.Size], d.words[node+inode.Chain] = 768, 3
+	d.words[layout.BlockAt(h, 3)] = 4
+	d.call(req{Kind: api.ReqSeek, At: 256}, api.Result{A: 256})
+	d.call(req{Kind: api.ReqRead, Size: 9}, api.Result{Err: api.ErrBytes})
+	d.call(req{Kind: api.ReqWrite, Data: "x"}, api.Result{Err: api.ErrBytes})
+	d.call(req{Kind: api.ReqTruncate}, api.Result{Err: api.ErrBytes})
+	d.call(req{Kind: api.ReqOpen, Path: "/f", Flags: api.Empty}, api.Result{Err: api.ErrBytes})
+	d.call(req{Kind: api.ReqOpen, Path: "/f"}, api.Result{A: 1, B: 2})
+}
+
 // P21.3: Open, Close and Ack.
 func TestSessions(t *testing.T) {
 	d := newDisk(t, g)
@@ -300,6 +318,7 @@ func TestSessions(t *testing.T) {
 	d.call(req{Kind: api.ReqOpen, Path: "/f", Flags: api.Create}, api.Result{B: 2})
 	d.call(req{Kind: api.ReqOpen, Path: "/f"}, api.Result{A: 1, B: 2})
 	d.call(req{Kind: api.ReqUnlink, Path: "/f"}, api.Result{})
+	end(2, class.Gap, 0) // what is open stays so
 	end(1, class.New, 6) // the state, two descriptors, the inode's kind and opens, the map
 	end(1, class.Done, 0)
 	open(1, class.Stale, 0)

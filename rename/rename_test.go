@@ -221,6 +221,8 @@ func TestSpoilt(t *testing.T) {
 	to(t, bad(layout.InodeAt(g, 5)+inode.Links, 0), g, "/d", "/g", api.ErrBytes)
 	m, _ := blocks.Of(view.New(words), g, 3)
 	to(t, bad(layout.BlockAt(g, m.List()[0]), 0), g, "/d", "/e", api.ErrBytes)
+	m, _ = blocks.Of(view.New(words), g, 3)
+	to(t, bad(layout.BlockAt(g, m.List()[0]), 0), g, "/e", "/e/x", api.ErrBytes) // ahead of the loop
 	// Within is asked ahead of what is there, and a view that takes no more is told.
 	to(t, words, g, "/e", "/e/f", api.ErrLoop)
 	v := view.New(words)

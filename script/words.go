@@ -22,11 +22,6 @@ func Number(s string) (uint64, bool) {
 	if s == "" || s[0] == '0' && s != "0" {
 		return 0, false
 	}
-	for i := range len(s) {
-		if s[i] < '0' || s[i] > '9' {
-			return 0, false
-		}
-	}
 	n, err := strconv.ParseUint(s, 10, 64)
 	if err != nil {
 		return 0, false

@@ -165,6 +165,11 @@ func TestLocks(t *testing.T) {
 func TestLocksOfSessions(t *testing.T) {
 	words := files(t)
 	n, b := lock.Names, lock.Blocks
+	var opens []req
+	for _, s := range []string{"/a", "/b", "/c", "/d"} {
+		opens = append(opens, req{Kind: api.ReqOpen, Path: s, Flags: api.Create})
+	}
+	four := tree(t, opens...)
 	spoilt := slices.Clone(words)
 	spoilt[layout.SessionAt(2)] = 7
 	for _, c := range []struct {
@@ -175,7 +180,11 @@ func TestLocksOfSessions(t *testing.T) {
 		{words, job{Kind: worker.Close, Gen: 1}, []int{0, n, lock.Inode(2), lock.Inode(4), b}},
 		{words, job{Kind: worker.Close, Gen: 2}, []int{0}},
 		{words, job{Kind: worker.Close, Session: 3}, []int{3}},
+		{four, job{Kind: worker.Close, Gen: 1}, []int{0, n, lock.Inode(2), lock.Inode(3), lock.Inode(4), lock.Inode(5), b}},
+		{words, job{Kind: worker.Close, Gen: 1, R: req{Kind: api.ReqStat, Path: "/d"}}, []int{0, n, lock.Inode(2), lock.Inode(4), b}},
 		{words, job{Kind: worker.Ack, Gen: 1, Seq: 9}, []int{0}},
+		{words, job{Kind: worker.Ack, Gen: 1, Seq: 5, R: req{Kind: api.ReqMkdir, Path: "/x"}}, []int{0}},
+		{words, job{Kind: worker.Open, Gen: 1, Seq: 5, R: req{Kind: api.ReqMkdir, Path: "/x"}}, []int{0}},
 		{words, job{Kind: worker.Open, Session: 1, Gen: 1}, []int{1}},
 		{words, job{Kind: worker.Call, Session: 3, Gen: 1, Seq: 1, R: req{Kind: api.ReqMkdir, Path: "/x"}}, []int{3}},
 		{spoilt, job{Kind: worker.Close, Session: 2, Gen: 1}, []int{2}},

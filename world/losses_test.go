@@ -380,3 +380,36 @@ func TestEachStep(t *testing.T) {
 		}
 	}
 }
+
+// W5: how many workers there are, and in which order they step, turns nothing of what one client is told who waits for each reply.
+func TestOneClient(t *testing.T) {
+	var first []told
+	for workers := 1; workers <= 4; workers++ {
+		x := newTrial(t, layout.Geometry{Workers: workers, Inodes: 9, Blocks: 40}, 3)
+		var all []told
+		ask := func(j job) {
+			n := x.w.Do(act{Kind: world.Submit, J: j}).N
+			for {
+				x.w.Do(act{Kind: world.Step, N: x.next(workers)})
+				if r := x.w.Do(act{Kind: world.Reply, N: n}); r.Err != api.ErrBusy {
+					all = append(all, r)
+					return
+				}
+			}
+		}
+		requests := newTrial(t, one, 77) // the same of all
+		ask(open())
+		for seq := range uint64(150) {
+			r := requests.anything()
+			ask(call(seq+1, r))
+			ask(call(seq+1, r))
+			ask(job{Kind: worker.Ack, Gen: 1, Seq: seq + 1})
+		}
+		if workers == 1 {
+			first = all
+		}
+		if !slices.Equal(all, first) {
+			t.Errorf("%d workers: other replies", workers)
+		}
+	}
+}
