@@ -451,3 +451,39 @@ func (d *disk) reopen(p *plain, gen *uint64) {
 	d.apply(l)
 	d.seq = 0
 }
+
+// R1: whatever words a device has, each call ends, and what it writes may be recorded.
+func TestAnyWords(t *testing.T) {
+	state := uint64(1)
+	next := func(n int) int {
+		state = state*6364136223846793005 + 1442695040888963407
+		return int((state >> 33) % uint64(n))
+	}
+	whole := newDisk(t, g)
+	for range 60 {
+		_, _, l, _ := plan.Call(whole.words, 0, 1, whole.seq+1, random(next))
+		whole.apply(l)
+		whole.seq++
+		_, l, _ = plan.Ack(whole.words, 0, 1, whole.seq)
+		whole.apply(l)
+	}
+	odd := []uint64{0, 1, 2, 3, 5, 9, 40, 60, 768, 1 << 63, math.MaxUint64}
+	for range 4000 {
+		words := slices.Clone(whole.words)
+		for range 1 + next(12) {
+			at := layout.InodeMapAt(g) + next(layout.Words(g)-layout.InodeMapAt(g))
+			if next(4) == 0 {
+				at = layout.DescriptorAt(0, next(4)) + next(2)
+			}
+			words[at] = odd[next(len(odd))]
+		}
+		r := random(next)
+		c, x, l, e := plan.Call(words, 0, 1, whole.seq+1, r)
+		if c != class.New || e != api.OK || !slot.May(x) || !record.May(g, l) {
+			t.Fatalf("%v: %d, %v, %v, %d", r, c, x, l, e)
+		}
+		if _, l, e := plan.Close(words, 0, 1); !record.May(g, l) || e != api.OK && len(l) > 0 {
+			t.Fatalf("Close: %v, %d", l, e)
+		}
+	}
+}
