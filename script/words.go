@@ -214,17 +214,17 @@ func (r *row) request() (api.Request, bool) {
 }
 
 // Show: its words. (P28.2)
-func Show(x api.Request) string {
-	if !request.May(x) {
+func Show(r api.Request) string {
+	if !request.May(r) {
 		return ""
 	}
 	for _, f := range forms() {
-		if f.kind != x.Kind {
+		if f.kind != r.Kind {
 			continue
 		}
 		l := []string{f.name}
 		for _, field := range f.fields {
-			s := field.show(x)
+			s := field.show(r)
 			if !isWord(s) {
 				return ""
 			}
